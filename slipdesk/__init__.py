@@ -1,0 +1,1 @@
+"""Slipdesk: one list of things, kept on several desks apart."""
