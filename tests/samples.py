@@ -1,6 +1,15 @@
-"""Books to hand in, and what the document asks of any book."""
+"""Books and days to hand in, and what the document asks of any book."""
 
 import copy
+import itertools
+import random
+
+THINGS = ("pen", "ink", "cup", "a", "zz")
+
+
+def thing_of(desk, number):
+    """The thing on a slip, one for each desk and number, so that books made apart can be merged."""
+    return THINGS[(desk * 3 + number * number) % len(THINGS)]
 
 
 def book_of(count, length):
@@ -12,7 +21,7 @@ def book_of(count, length):
         desk = step * 7 % count
         heard[desk] += 1
         if heard[desk] % 3 != 0:
-            slips.append((desk, heard[desk], ("pen", "ink", "cup", "a", "zz")[step * step % 5]))
+            slips.append((desk, heard[desk], THINGS[step * step % 5]))
         step += 1
     return (heard, sorted(slips))
 
@@ -60,6 +69,56 @@ def sample_books():
         "two hundred slips, one desk": book_of(1, 200),
         "two hundred and thirty slips, forty desks": book_of(40, 230),
     }
+
+
+def drawn_book(seed, count, numbers, length):
+    """A book with at most so many slips, drawn from these numbers."""
+    draw = random.Random(seed)
+    heard = [draw.choice((0,) + numbers) for desk in range(count)]
+    places = [(desk, number) for desk in range(count) for number in numbers if number <= heard[desk]]
+    lying = draw.sample(places, min(length, len(places) * draw.randint(1, 4) // 4))
+    return (heard, [(desk, number, thing_of(desk, number)) for desk, number in sorted(lying)])
+
+
+def small_books(count, most):
+    """Every book of so many desks that has heard of at most so many slips of each."""
+    parts = []
+    for heard in range(most + 1):
+        for picks in itertools.product((False, True), repeat=heard):
+            parts.append((heard, [number + 1 for number, pick in enumerate(picks) if pick]))
+    for choice in itertools.product(parts, repeat=count):
+        slips = []
+        for desk, part in enumerate(choice):
+            slips.extend((desk, number, thing_of(desk, number)) for number in part[1])
+        yield ([part[0] for part in choice], slips)
+
+
+def families():
+    """Fresh lists of books by name; those of one list are of the same desks and can be merged."""
+    small = tuple(range(1, 13))
+    large = (1, 2, 9, 10, 10 ** 9, 10 ** 40 - 1, 10 ** 40, 10 ** 40 + 1)
+    many = tuple(range(1, 400))
+    return {
+        "one desk": [drawn_book(seed, 1, small, 12) for seed in range(8)],
+        "three desks": [drawn_book(seed, 3, small, 36) for seed in range(8)],
+        "three desks, large numbers": [drawn_book(seed, 3, large, 24) for seed in range(8)],
+        "forty desks": [drawn_book(seed, 40, small, 200) for seed in range(4)],
+        "forty-three desks, large numbers": [drawn_book(seed, 43, large, 230) for seed in range(4)],
+        "two hundred slips, one desk": [drawn_book(seed, 1, many, 200) for seed in range(3, 11)],
+        "two hundred and thirty slips, five desks": [drawn_book(seed, 5, many, 230) for seed in range(4)],
+        "empty and not, four desks": [([0] * 4, []), drawn_book(1, 4, small, 48), ([12] * 4, [])],
+    }
+
+
+def day_of(seed, count, length, things=THINGS):
+    """Deeds drawn for a day; how often each kind comes differs from day to day."""
+    draw = random.Random(seed)
+    weights = [draw.randint(1, 5) for kind in range(3)]
+    deeds = []
+    for kind in draw.choices(("put", "take", "hear"), weights, k=length):
+        desk = draw.randrange(count)
+        deeds.append((kind, desk, draw.randrange(count) if kind == "hear" else draw.choice(things)))
+    return deeds
 
 
 def check_book(case, book):

@@ -70,6 +70,12 @@ class TakenOutTest(unittest.TestCase):
                     self.assertNotIn(thing, things_in(answer))
                     witness.check_unchanged(self)
 
+    def test_answer_has_lists_of_its_own(self):
+        for name, book in sample_books().items():
+            for thing in things_in(book):
+                for own, handed in zip(taken_out(book, thing), book):
+                    self.assertIsNot(own, handed, name)
+
     def test_arguments_by_their_names(self):
         self.assertEqual(taken_out(book=([1], [(0, 1, "pen")]), thing="pen"), ([1], []))
 
